@@ -108,18 +108,23 @@ def chance_rows(many, seed):
         yield [source.randint(0, 9) for _ in range(length)]
 
 
+def mixed(row, source):
+    """A row that goes on just where this one does, behind many exchanges."""
+    row = list(row)
+    for _ in range(6 * len(row)):
+        one, other = sorted((source.randrange(len(row)), source.randrange(len(row))))
+        low, high = row[one] - (other - one), row[other] + (other - one)
+        if one < other and low >= 0 and high <= 9:
+            row[one], row[other] = high, low
+    return row
+
+
 def going_rows(many, seed):
     """Rows of any lengths that go on, got by exchanging where throws come down."""
     source = random.Random(seed)
     for _ in range(many):
         length = source.randint(1, 40)
-        row = [source.randint(0, 9)] * length
-        for _ in range(6 * length):
-            one, other = sorted((source.randrange(length), source.randrange(length)))
-            low, high = row[one] - (other - one), row[other] + (other - one)
-            if one < other and low >= 0 and high <= 9:
-                row[one], row[other] = high, low
-        yield row
+        yield mixed([source.randint(0, 9)] * length, source)
 
 
 def nearly_going_rows(many, seed):
@@ -130,3 +135,44 @@ def nearly_going_rows(many, seed):
             at = source.randrange(len(row))
             row[at] = (row[at] + source.randint(1, len(row) - 1)) % 10
             yield row
+
+
+class PlainHall:
+    """A hall over the turns of its clock: what comes down when, and a plain list of the heights to come.
+
+    The ways are told to it. Its list is long enough for 1000 turns behind each change.
+    """
+
+    def __init__(self, row):
+        landings = [early + row[early % len(row)] for early in range(-50, 0) if row[early % len(row)] > 0]
+        self.turn = 0
+        self.air = dict(zip(sorted(turn for turn in landings if turn >= 0), itertools.count()))
+        self.change([], row)
+
+    def state(self):
+        return sum(2 ** (turn - self.turn) for turn in self.air)
+
+    def pairs(self):
+        return [(self.air[turn], turn - self.turn) for turn in sorted(self.air)]
+
+    def ahead(self, many):
+        return self.heights[:many]
+
+    def step(self):
+        turn, height, thing = self.turn, self.heights.pop(0), self.air.pop(self.turn, None)
+        if (thing is None) != (height == 0) or turn + height in self.air:
+            raise Dropped(turn)
+        if thing is not None:
+            self.air[turn + height] = thing
+        self.turn = turn + 1
+        return (turn, thing, height)
+
+    def change(self, way, row):
+        self.heights = [*way, *list(row) * (1000 // len(row) + 1)]
+
+
+def going_rows_of(many, things, seed):
+    """Rows of up to 12 heights that go on and have just so many things."""
+    source = random.Random(seed)
+    for _ in range(many):
+        yield mixed([things] * source.randint(1, 12), source)

@@ -16,19 +16,16 @@ def need_state(thing):
 def lets(state):
     """The heights that the state lets, rising."""
     need_state(state)
-    if not _comes_down(state, 0):
-        return [0]
-    return [height for height in range(1, TOP_HEIGHT + 1) if not _comes_down(state, height)]
+    return heights_let(state)
 
 
 def thrown(state, height):
     """The state behind a throw of this height."""
-    heights = lets(state)
+    need_state(state)
     # Only a whole number is looked up: True and 1.0 would be found as 1.
-    if not is_whole(height) or height not in heights:
+    if not is_whole(height) or height not in heights_let(state):
         raise NoThrow("the state doesn't let this height")
-    # At height 0 this sets bit 0, which is gone at once: nothing is thrown.
-    return (state | (1 << height)) >> 1
+    return state_behind(state, height)
 
 
 def state_at(row, turn=0):
@@ -45,5 +42,19 @@ def state_at(row, turn=0):
     return state
 
 
-def _comes_down(state, turns):
+def heights_let(state):
+    """The heights that a state lets, rising; for what is known to be a state."""
+    if not comes_down(state, 0):
+        return [0]
+    return [height for height in range(1, TOP_HEIGHT + 1) if not comes_down(state, height)]
+
+
+def state_behind(state, height):
+    """The state behind a throw; for a height that is known to be let."""
+    # At height 0 this sets bit 0, which is gone at once: nothing is thrown.
+    return (state | (1 << height)) >> 1
+
+
+def comes_down(state, turns):
+    """Tell whether something comes down so many turns from now."""
     return (state >> turns) % 2 == 1
